@@ -1,0 +1,1 @@
+"""Dayspread: a calendar server that is exact for the endless future."""

@@ -1,0 +1,103 @@
+"""Plain counts that the tests hold the program against: day by day, straight from the words of the document.
+
+They read the values that a calendar, a zone or a rule was given, and call nothing of the program.
+"""
+
+
+class Table:
+    """The days of the first years of a calendar, one by one."""
+
+    def __init__(self, calendar, years):
+        self.calendar = calendar
+        self.dates = []
+        self.months = []
+        self.years = years
+        for year in range(years):
+            for month in range(1, len(calendar.months) + 1):
+                length = plain_length(calendar, year, month)
+                start = len(self.dates)
+                self.months.append(list(range(start, start + length)))
+                self.dates.extend((year, month, number) for number in range(1, length + 1))
+
+    def index(self, day):
+        year, month, _ = self.dates[day]
+        return year * len(self.calendar.months) + month - 1
+
+    def place_day(self, index, place):
+        days = self.months[index]
+        word, number = place[0], place[1]
+        if word.startswith("week"):
+            days = [day for day in days if day % self.calendar.week == place[2]]
+        if word in ("back", "weekback"):
+            days = days[::-1]
+        return days[number - 1] if number <= len(days) else None
+
+    def fits(self, rule, day):
+        pattern, first, _ = rule
+        word, every = pattern[0], pattern[1]
+        if word == "days":
+            return (day - first) % every == 0
+        if word == "weeks":
+            week = self.calendar.week
+            return day % week in pattern[2] and (day // week - first // week) % every == 0
+        if word == "months":
+            apart = self.index(day) - self.index(first)
+        else:
+            if self.dates[day][1] != pattern[2]:
+                return False
+            apart = self.dates[day][0] - self.dates[first][0]
+        return apart % every == 0 and day in [self.place_day(self.index(day), place) for place in pattern[-1]]
+
+    def rule_days(self, rule):
+        """All days of the rule within the table."""
+        return ended(self.fit_days(rule), rule[2])
+
+    def fit_days(self, rule):
+        """All days of the table from the first one of the rule on that fit, whatever the end is."""
+        return [day for day in range(rule[1], len(self.dates)) if self.fits(rule, day)]
+
+    def switch(self, year, moment):
+        """The standard time of a yearly moment in a year of the table."""
+        month, place, unit = moment
+        index = year * len(self.calendar.months) + month - 1
+        return self.place_day(index, place) * self.calendar.day + unit
+
+    def is_summer(self, zone, instant):
+        if zone.shift == 0:
+            return False
+        s = instant + zone.offset
+        if s < 0:
+            return zone.off[0] < zone.on[0]
+        year = self.dates[s // self.calendar.day][0]
+        a = self.switch(year, zone.on)
+        b = self.switch(year, zone.off)
+        if a < b:
+            return a <= s < b
+        return s < b or s >= a
+
+    def local(self, zone, instant):
+        return instant + zone.offset + (zone.shift if self.is_summer(zone, instant) else 0)
+
+
+def ended(days, end):
+    """The days of a rule with this end, of all that fit."""
+    if end[0] == "until":
+        return [day for day in days if day <= end[1]]
+    return days[:end[1]] if end[0] == "count" else days
+
+
+def plain_length(calendar, year, month):
+    length = calendar.months[month - 1]
+    if month == calendar.long_month and year % calendar.cycle in calendar.long_years:
+        length += calendar.extra
+    return length
+
+
+def all_places(calendar, greatest=60):
+    """Every place of a calendar up to a greatest n."""
+    places = []
+    for number in range(1, greatest + 1):
+        places += [("day", number), ("back", number)]
+        for weekday in range(calendar.week):
+            places += [("weekday", number, weekday), ("weekback", number, weekday)]
+    return places
