@@ -1,0 +1,43 @@
+"""The interface of the document: names, arguments and kinds, each in the file under which it is listed."""
+
+import importlib
+import inspect
+import unittest
+
+FUNCTIONS = {
+    "places": {"is_place": "(calendar, place)", "place_day": "(calendar, index, place)",
+               "is_at": "(calendar, place, day)"},
+    "rules": {"check_rule": "(calendar, rule)", "fits": "(calendar, rule, day)", "tells": "(calendar, rule, day)"},
+    "walk": {"next_day": "(calendar, rule, day)", "days_between": "(calendar, rule, start, stop)",
+             "last_day": "(calendar, rule)"},
+    "written": {"format_rule": "(rule)", "parse_rule": "(calendar, line)"},
+}
+CLASSES = {
+    ("almanac", "Calendar"): {
+        "__init__": "(self, months, *, long_month=1, extra=0, cycle=1, long_years=(), week=7, day=1440)",
+        "is_long": "(self, year)", "year_length": "(self, year)", "month_length": "(self, year, month)",
+        "year_start": "(self, year)", "month_start": "(self, index)", "date_of": "(self, day)",
+        "day_of": "(self, year, month, number)", "month_index": "(self, day)", "weekday": "(self, day)",
+        "cycle_days": "(self)", "repeat_days": "(self)"},
+    ("zone", "Zone"): {
+        "__init__": "(self, calendar, offset, *, shift=0, on=None, off=None)",
+        "is_summer": "(self, instant)", "local": "(self, instant)", "instant": "(self, local)"},
+}
+
+
+class InterfaceTest(unittest.TestCase):
+    def test_functions(self):
+        for file, functions in FUNCTIONS.items():
+            module = importlib.import_module(f"dayspread.{file}")
+            for name, signature in functions.items():
+                found = getattr(module, name)
+                self.assertEqual(found.__module__, module.__name__)
+                self.assertEqual(str(inspect.signature(found)), signature, name)
+
+    def test_classes(self):
+        for (file, name), methods in CLASSES.items():
+            module = importlib.import_module(f"dayspread.{file}")
+            found = getattr(module, name)
+            self.assertEqual(found.__module__, module.__name__)
+            for method, signature in methods.items():
+                self.assertEqual(str(inspect.signature(found.__dict__[method])), signature, (name, method))
