@@ -101,3 +101,38 @@ def all_places(calendar, greatest=60):
         for weekday in range(calendar.week):
             places += [("weekday", number, weekday), ("weekback", number, weekday)]
     return places
+
+
+def belongs(told, instant):
+    """True if the instant belongs to the set that the four values of point 4.1 describe."""
+    head, since, period, cycle = told
+    if instant < since:
+        return any(start <= instant < end for start, end in head)
+    return any(start <= (instant - since) % period < end for start, end in cycle)
+
+
+def tidy(instants):
+    """The tidy tuple of the spans of some instants."""
+    found = []
+    for instant in sorted(set(instants)):
+        if found and found[-1][1] == instant:
+            found[-1] = (found[-1][0], instant + 1)
+        else:
+            found.append((instant, instant + 1))
+    return tuple(found)
+
+
+def normal_form(test, since, period):
+    """The four values of point 4.2, of a set of which it is known that it repeats so; found by the definition."""
+    # A set that repeats with p from some instant on does so from `since` on, and p divides every other period.
+    least = next(p for p in range(1, period + 1)
+                 if all(test(t) == test(t + p) for t in range(since, since + period)))
+    while since > 0 and test(since - 1) == test(since - 1 + least):
+        since -= 1
+    return (tidy(t for t in range(since) if test(t)), since, least,
+            tidy(t for t in range(least) if test(since + t)))
+
+
+def values(spans):
+    """The four values of a span set."""
+    return spans.head, spans.since, spans.period, spans.cycle

@@ -10,6 +10,9 @@ FUNCTIONS = {
     "rules": {"check_rule": "(calendar, rule)", "fits": "(calendar, rule, day)", "tells": "(calendar, rule, day)"},
     "walk": {"next_day": "(calendar, rule, day)", "days_between": "(calendar, rule, start, stop)",
              "last_day": "(calendar, rule)"},
+    "segments": {"merged": "(spans)", "cut": "(spans, start, stop)", "gaps": "(spans, start, stop)",
+                 "common": "(first, second)"},
+    "hours": {"summer": "(zone)", "weekly_hours": "(zone, rows)"},
     "written": {"format_rule": "(rule)", "parse_rule": "(calendar, line)"},
 }
 CLASSES = {
@@ -22,6 +25,12 @@ CLASSES = {
     ("zone", "Zone"): {
         "__init__": "(self, calendar, offset, *, shift=0, on=None, off=None)",
         "is_summer": "(self, instant)", "local": "(self, instant)", "instant": "(self, local)"},
+    ("spans", "Spans"): {
+        "__init__": "(self, head, since, period, cycle)", "__contains__": "(self, instant)",
+        "__or__": "(self, other)", "__and__": "(self, other)", "__sub__": "(self, other)", "__invert__": "(self)",
+        "__eq__": "(self, other)", "shifted": "(self, by)", "widened": "(self, before, after)",
+        "room": "(self, length)", "first": "(self)", "next_from": "(self, instant)", "is_empty": "(self)",
+        "differs": "(self, other)", "measure": "(self, start, stop)", "parts": "(self, start, stop)"},
 }
 
 

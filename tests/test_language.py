@@ -191,3 +191,56 @@ class NodesTest(unittest.TestCase):
             for node in ast.walk(tree):
                 if isinstance(node, ast.Call) and isinstance(node.func, ast.Attribute):
                     self.assertIn(node.func.attr, METHODS | own, (path, node.lineno))
+
+
+class OperatorsTest(unittest.TestCase):
+    """What the operators of Spans run changes nothing but lists that it made itself."""
+
+    FILES = ("segments", "wheels", "sharing", "normal", "spans")
+    CHANGES = ("append", "extend", "insert", "pop", "remove", "clear", "reverse", "update", "setdefault")
+
+    def functions(self):
+        for path, tree in parsed().items():
+            if path.stem in self.FILES:
+                for node in ast.walk(tree):
+                    if isinstance(node, ast.FunctionDef):
+                        yield node
+
+    def changed_names(self, function):
+        for node in ast.walk(function):
+            if isinstance(node, ast.Call) and isinstance(node.func, ast.Attribute) and node.func.attr in self.CHANGES:
+                yield node.func.value
+            if isinstance(node, ast.Subscript) and isinstance(node.ctx, (ast.Store, ast.Del)):
+                yield node.value
+
+    def is_new_list(self, value):
+        if isinstance(value, ast.Call):
+            return isinstance(value.func, ast.Name) and value.func.id in ("list", "sorted")
+        return isinstance(value, (ast.List, ast.ListComp))
+
+    def test_only_new_lists_are_changed(self):
+        for function in self.functions():
+            for changed in self.changed_names(function):
+                self.assertIsInstance(changed, ast.Name, function.name)
+                made = [node.value for node in ast.walk(function) if isinstance(node, ast.Assign)
+                        and any(isinstance(target, ast.Name) and target.id == changed.id for target in node.targets)]
+                self.assertTrue(made and all(self.is_new_list(value) for value in made), (function.name, changed.id))
+
+    def test_attributes_are_assigned_when_an_object_is_made(self):
+        for function in self.functions():
+            for node in ast.walk(function):
+                if isinstance(node, ast.Attribute) and isinstance(node.ctx, ast.Store):
+                    self.assertEqual((function.name, node.value.id), ("__init__", "self"))
+
+    def test_no_assignment_in_place_and_no_sort_in_place(self):
+        for path, tree in parsed().items():
+            for node in ast.walk(tree):
+                self.assertNotIsInstance(node, ast.AugAssign, path)
+                self.assertNotEqual(getattr(node, "attr", ""), "sort", path)
+
+    def test_no_passed_function_is_called(self):
+        for function in self.functions():
+            parameters = {arg.arg for arg in function.args.args}
+            for node in ast.walk(function):
+                if isinstance(node, ast.Call) and isinstance(node.func, ast.Name):
+                    self.assertNotIn(node.func.id, parameters, function.name)

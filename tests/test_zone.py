@@ -7,26 +7,7 @@ from dayspread.errors import DayspreadError, InvalidZone
 from dayspread.zone import Zone
 from tests.plain import Table
 from tests.samples import ALL_LONG, FAR, GREGORIAN, NO_EXTRA, ONE_MONTH, SMALL
-
-FIRST = (1, ("day", 1), 0)
-LAST = (3, ("back", 1), 5)
-SPRING = (1, ("back", 2), 3)
-MIDDLE = (2, ("weekback", 1, 2), 4)
-AUTUMN = (3, ("weekday", 1, 1), 2)
-# One unit of summer or of winter, moments at the ends of a year, and ordinary ones; each pair is used both ways.
-PAIRS = ((FIRST, LAST), (SPRING, AUTUMN), (SPRING, MIDDLE), (MIDDLE, AUTUMN),
-         ((1, ("back", 1), 5), (2, ("day", 1), 0)), ((2, ("back", 5), 0), (3, ("day", 4), 5)))
-
-
-def small_zones():
-    """Zones of the small calendar with all kinds of summer times, offsets and shifts."""
-    zones = [Zone(SMALL, offset) for offset in (-6, -1, 0, 1, 6)]
-    for first, second in PAIRS:
-        for on, off in ((first, second), (second, first)):
-            for offset in (-6, -5, 0, 2, 6):
-                for shift in (1, 4, 6):
-                    zones.append(Zone(SMALL, offset, shift=shift, on=on, off=off))
-    return zones
+from tests.zone_samples import AUTUMN, SPRING, small_zones
 
 
 def described(zone):
