@@ -4,7 +4,7 @@ from dayspread.errors import InvalidSpans
 from dayspread.normal import normal
 from dayspread.segments import contains, cut, first_behind, merged, moved_by, total
 from dayspread.sharing import complement, first_alone, first_common, shared
-from dayspread.wheels import count_to, next_in, turned
+from dayspread.wheels import count_in, next_in, turned
 
 
 def check_spans(spans, bound):
@@ -113,9 +113,8 @@ class Spans:
 
     def measure(self, start, stop):
         """How many instants from start to stop - 1 belong to the set."""
-        low = max(start, self.since)
-        high = max(stop, self.since)
-        return total(cut(self.head, start, stop)) + count_to(self.wheel(), high) - count_to(self.wheel(), low)
+        late = count_in(self.wheel(), max(start, self.since), max(stop, self.since))
+        return total(cut(self.head, start, stop)) + late
 
     def parts(self, start, stop):
         """The tidy tuple of the spans of the instants from start to stop - 1 that belong to the set."""

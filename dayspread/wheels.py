@@ -60,11 +60,11 @@ def next_in(wheel, instant):
     return instant - rest + period + cycle[0][0]
 
 
-def count_to(wheel, stop):
-    """How many integers from the origin to stop - 1 the wheel contains."""
-    origin, period, cycle = wheel
-    turns, rest = divmod(stop - origin, period)
-    return turns * total(cycle) + total(cut(cycle, 0, rest))
+def count_in(wheel, start, stop):
+    """How many integers from start to stop - 1 the wheel contains."""
+    turns, rest = divmod(stop - start, wheel[1])
+    late = total(turned(wheel, stop - rest, stop))
+    return late + turns * total(wheel[2]) if turns > 0 else late
 
 
 def about(wheel, start, stop):

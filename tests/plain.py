@@ -3,6 +3,8 @@
 They read the values that a calendar, a zone or a rule was given, and call nothing of the program.
 """
 
+from math import gcd, lcm
+
 
 class Table:
     """The days of the first years of a calendar, one by one."""
@@ -12,6 +14,7 @@ class Table:
         self.dates = []
         self.months = []
         self.years = years
+        self.kept_times = {}
         for year in range(years):
             for month in range(1, len(calendar.months) + 1):
                 length = plain_length(calendar, year, month)
@@ -78,6 +81,13 @@ class Table:
     def local(self, zone, instant):
         return instant + zone.offset + (zone.shift if self.is_summer(zone, instant) else 0)
 
+    def local_times(self, zone):
+        """The local times of all instants whose standard time surely lies within the table."""
+        if zone not in self.kept_times:
+            many = (len(self.dates) - 1) * self.calendar.day
+            self.kept_times[zone] = [self.local(zone, instant) for instant in range(many)]
+        return self.kept_times[zone]
+
 
 def ended(days, end):
     """The days of a rule with this end, of all that fit."""
@@ -136,3 +146,52 @@ def normal_form(test, since, period):
 def values(spans):
     """The four values of a span set."""
     return spans.head, spans.since, spans.period, spans.cycle
+
+
+def plain_starts(table, zone, times):
+    """The first instants at which it is as late by the local clock, for ascending local times within the table."""
+    local_times = table.local_times(zone)
+    found = []
+    at = 0
+    for time in times:
+        while at < len(local_times) and local_times[at] < time:
+            at += 1
+        if at == len(local_times):
+            break
+        found.append(at)
+    return found
+
+
+def plain_occurrences(table, zone, rule, unit, length, dropped=(), moved=()):
+    """The ascending triples (start, end, day) of the occurrences of a series, as far as the table reaches."""
+    special = {day: (start, start + more, day) for day, start, more in moved}
+    days = [day for day in table.rule_days(rule) if day not in dropped]
+    starts = plain_starts(table, zone, [day * zone.calendar.day + unit for day in days])
+    return sorted(special.get(day, (start, start + length, day)) for day, start in zip(days, starts))
+
+
+def plain_repeat_days(zone, rule):
+    """The repeat days of a rule, by the words of point 5.4."""
+    calendar, (pattern, _, _) = zone.calendar, rule
+    months = len(calendar.months)
+    cycle_days = sum(plain_length(calendar, year, month) for year in range(calendar.cycle)
+                     for month in range(1, months + 1))
+    repeat = lcm(cycle_days, calendar.week)
+    every = pattern[1]
+    if pattern[0] == "days":
+        return every if zone.shift == 0 else lcm(every, repeat)
+    if pattern[0] == "weeks":
+        return every * calendar.week if zone.shift == 0 else lcm(every * calendar.week, repeat)
+    g = gcd(every, months * calendar.cycle if pattern[0] == "months" else calendar.cycle)
+    return lcm(calendar.week, cycle_days * (every // g))
+
+
+def plain_settled(table, zone, rule, dropped, moved):
+    """The pair (s, p) by the words of point 5.4; an ended rule has its last day within the table."""
+    day = zone.calendar.day
+    m = max([rule[1], *dropped, *(row[0] for row in moved)])
+    s = max([(m + 8) * day, *(row[1] + row[2] for row in moved)])
+    if rule[2] == ("never",):
+        return s, day * plain_repeat_days(zone, rule)
+    days = table.rule_days(rule)
+    return max(s, ((days[-1] if days else 0) + 8) * day), 1

@@ -13,6 +13,9 @@ FUNCTIONS = {
     "segments": {"merged": "(spans)", "cut": "(spans, start, stop)", "gaps": "(spans, start, stop)",
                  "common": "(first, second)"},
     "hours": {"summer": "(zone)", "weekly_hours": "(zone, rows)"},
+    "edits": {"without_day": "(series, day)", "with_moved": "(series, day, start, length)",
+              "split_at": "(series, day)"},
+    "needs": {"is_possible": "(book, need, instant)"},
     "written": {"format_rule": "(rule)", "parse_rule": "(calendar, line)"},
 }
 CLASSES = {
@@ -31,6 +34,19 @@ CLASSES = {
         "__eq__": "(self, other)", "shifted": "(self, by)", "widened": "(self, before, after)",
         "room": "(self, length)", "first": "(self)", "next_from": "(self, instant)", "is_empty": "(self)",
         "differs": "(self, other)", "measure": "(self, start, stop)", "parts": "(self, start, stop)"},
+    ("series", "Series"): {
+        "__init__": "(self, zone, rule, unit, length, *, dropped=(), moved=())", "occurrence": "(self, day)",
+        "covers": "(self, instant)", "occurrences": "(self, start, stop)", "spans": "(self)", "settled": "(self)",
+        "self_clash": "(self)"},
+    ("book", "Book"): {
+        "__init__": "(self)", "add": "(self, name, series, resources)", "remove": "(self, name)",
+        "drop": "(self, name, day)", "move": "(self, name, day, start, length)",
+        "divide": "(self, name, day, new_name)", "invite": "(self, name, person)",
+        "reply": "(self, name, person, word)", "names": "(self)", "series": "(self, name)",
+        "resources": "(self, name)", "guests": "(self, name)", "busy": "(self, resource)",
+        "holder": "(self, resource, instant)", "agenda": "(self, resource, start, stop)", "copy": "(self)"},
+    ("needs", "Need"): {
+        "__init__": "(self, resources, length, *, hours=None, before=0, after=0, start=0)"},
 }
 
 
