@@ -82,6 +82,8 @@ def common(first, second):
 
 def moved_by(spans, by):
     """The spans, each moved by a number of units."""
+    if by == 0:
+        return tuple(spans)
     return tuple([(start + by, end + by) for start, end in spans])
 
 

@@ -43,10 +43,10 @@ def repeat_days(zone, rule):
     return lcm(calendar.week, calendar.cycle_days() * (every // gcd(every, turn)))
 
 
-def first_shared_start(rows):
-    """The first instant that two of the ascending occurrences share, or None."""
+def first_double(spans):
+    """The first instant that two of the ascending spans share, or None."""
     latest = 0
-    for start, end, _ in rows:
+    for start, end in spans:
         if start < latest:
             return start
         latest = max(latest, end)
@@ -137,17 +137,17 @@ class Series:
         if start >= stop:
             return ()
         length = self.length
-        rows = [(low, low + length, day) for low, day in self._regular_starts(start, stop)]
+        days = self._regular_days(start, stop)
+        rows = [(low, low + length, day) for low, day in zip(starts_of(self.zone, days, self.unit), days)]
         rows.extend([(low, low + more, day) for day, low, more in self.moved])
         return tuple(sorted([row for row in rows if row[0] < stop and row[1] > start]))
 
-    def _regular_starts(self, start, stop):
-        """Pairs (start, day) of occurrences that are not moved, all those within the bounds among them."""
+    def _regular_days(self, start, stop):
+        """Ascending days that are not moved, those of all such occurrences within the bounds among them."""
         day = self.zone.calendar.day
         days = self.days_of_rule(start // day - DAYS_BEHIND, stop // day + DAYS_AHEAD + 1)
         special = self._special
-        days = [number for number in days if number not in special]
-        return list(zip(starts_of(self.zone, days, self.unit), days))
+        return [number for number in days if number not in special] if special else days
 
     def settled(self):
         """The pair (s, p) of point 5.4."""
@@ -164,12 +164,15 @@ class Series:
     def _look_through(self):
         """Finds what is asked of the series as a whole."""
         since, period = self.settled()
+        stop = since + period
+        length = self.length
         # What comes later comes again as it is here, with as many occurrences at each instant.
-        rows = self.occurrences(0, since + period)
-        spans = merged([(start, end) for start, end, _ in rows])
-        cycle = moved_by(cut(spans, since, since + period), -since)
-        self._shared = first_shared_start(rows)
-        self._spans = Spans(cut(spans, 0, since), since, period, cycle)
+        rows = [(start, start + length) for start in starts_of(self.zone, self._regular_days(0, stop), self.unit)]
+        rows.extend([(start, start + more) for _, start, more in self.moved])
+        rows = sorted(rows)
+        covered = merged(rows)
+        self._shared = first_double(rows)
+        self._spans = Spans(cut(covered, 0, since), since, period, moved_by(cut(covered, since, stop), -since))
 
     def spans(self):
         """The span set of all instants in occurrences."""

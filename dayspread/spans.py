@@ -69,8 +69,6 @@ class Spans:
 
     def shifted(self, by):
         """The set shifted by a number of units; what falls below 0 is cut off."""
-        if by >= 0:
-            return Spans(moved_by(self.head, by), self.since + by, self.period, self.cycle)
         since = max(self.since + by, 0)
         head = moved_by(cut(self.head, -by, self.since), by)
         cycle = moved_by(self.parts(since - by, since - by + self.period), by - since)

@@ -44,7 +44,9 @@ def turned(wheel, start, stop):
 
 
 def cycle_from(wheel, start):
-    """The cycle of the same wheel with another origin."""
+    """The cycle of the same wheel with this origin."""
+    if start == wheel[0]:
+        return wheel[2]
     return moved_by(turned(wheel, start, start + wheel[1]), -start)
 
 

@@ -64,13 +64,19 @@ class SummerTest(unittest.TestCase):
             self.assertEqual(values(summer(zone)), expected)
 
     def test_ahead_of_the_first_year(self):
-        # Month 1 ends with standard time 17: it is summer in month 3, below 0 as well where it is switched off later.
+        # The switch of month 1 comes at standard time 9. Below 0 it is summer if the other one switches it on.
         north = summer(Zone(SMALL, -6, shift=1, on=SPRING, off=AUTUMN))
         south = summer(Zone(SMALL, -6, shift=1, on=AUTUMN, off=SPRING))
         self.assertEqual([t in north for t in range(6)], [False] * 6)
         self.assertEqual([t in south for t in range(6)], [True] * 6)
         self.assertEqual(north.first(), 6 + 6 + 3)
         self.assertEqual((~south).first(), 6 + 6 + 3)
+        for offset in (-1, -2):
+            early = summer(Zone(SMALL, offset, shift=1, on=AUTUMN, off=SPRING))
+            self.assertEqual((early.first(), (~early).first()), (0, 9 - offset))
+            # Here the clock is put back at standard time 0, and it was summer before.
+            early = summer(Zone(SMALL, offset, shift=1, on=AUTUMN, off=(1, ("day", 1), 0)))
+            self.assertEqual([t in early for t in range(5)], [t < -offset for t in range(5)])
         later = summer(Zone(SMALL, 6, shift=1, on=SPRING, off=AUTUMN))
         self.assertEqual(later.first(), 3)
 

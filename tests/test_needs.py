@@ -108,6 +108,9 @@ class PossibleTest(unittest.TestCase):
             need = Need(("red",), 1, before=before, after=after)
             self.assertEqual(tuple(t for t in range(6) if is_possible(self.book, need, t))[:len(expected)], expected)
         self.assertTrue(is_possible(self.book, Need(("bob",), 10000, before=10000, after=10000), 0))
+        self.book.move("one", 17, 0, 1)
+        for before in (0, 1, 10000):
+            self.assertFalse(is_possible(self.book, Need(("red",), 1, before=before), 0))
 
     def test_below_the_start(self):
         for start in (1, 100, FAR):

@@ -110,7 +110,7 @@ class NormalFormTest(unittest.TestCase):
         self.assertEqual(values(Spans((), 0, 10001, cycle))[2], 10001)
         # Twelve spans of two kinds that come again after four, six or all of them.
         for kinds, period in (("aabbaabbaabb", 40), ("aaaaabaaaaab", 60), ("abababababab", 20), ("aabaabaabaab", 30),
-                              ("aaaaaaaaaaab", 120), ("aaaaaaaaaaaa", 10), ("aabaabaabaaa", 120)):
+                              ("abaabaabaaba", 30), ("abbabbabbabb", 30), ("aaaaaaaaaaab", 120), ("aaaaaaaaaaaa", 10), ("aabaabaabaaa", 120)):
             rows = [(10 * k, 10 * k + (3 if kind == "a" else 5)) for k, kind in enumerate(kinds)]
             self.assertEqual(Spans((), 0, 120, rows).period, period, kinds)
 
