@@ -154,7 +154,8 @@ class Book:
         """Refuses a series that clashes with other bookings than that of this name (point 6.3)."""
         rivals = [(other, resource) for resource in held for other in self._holders(resource) if other != name]
         spans = series.spans()
-        meetings = {other: spans.meets(self.series(other).spans()) for other in sorted({other for other, _ in rivals})}
+        names = sorted({row[0] for row in rivals})
+        meetings = {rival: spans.meets(self.series(rival).spans()) for rival in names}
         instants = [instant for instant in meetings.values() if instant is not None]
         for other, resource in rivals:
             if instants and meetings[other] == min(instants):
