@@ -2,6 +2,7 @@
 
 from dayspread.edits import split_at, with_moved, without_day
 from dayspread.errors import Clash, DuplicateName, InvalidBooking, SelfClash, UnknownBooking, UnknownGuest
+from dayspread.keeping import Kept
 from dayspread.names import are_resources, is_name
 from dayspread.spans import Spans
 
@@ -11,9 +12,8 @@ COMING = "coming"
 WORDS = (ASKED, COMING, "absent")
 
 
-def held_by(booking):
+def held_by(resources, guests):
     """All that a booking holds, in the order of point 6.3: its resources, then the guests who are coming."""
-    _, resources, guests = booking
     coming = [person for person, word in guests if word == COMING]
     return (*resources, *coming)
 
@@ -22,7 +22,8 @@ class Book:
     """A book, without bookings at first."""
 
     def __init__(self):
-        # By name: the triple of series, resources and guests, the latter as ascending pairs of person and word.
+        # By name: the series (a Kept), the resources, the guests as ascending pairs of person and word, and all that
+        # the booking holds.
         self._bookings = {}
 
     def add(self, name, series, resources):
@@ -31,7 +32,7 @@ class Book:
             raise InvalidBooking("the name or the resources are none of a booking")
         self._check_free(name)
         self._check_times(name, series, resources)
-        self._bookings[name] = (series, resources, ())
+        self._put(name, Kept(series), resources, ())
 
     def remove(self, name):
         """Takes a booking out of the book."""
@@ -40,48 +41,48 @@ class Book:
 
     def drop(self, name, day):
         """Drops a day of a booking."""
-        series, resources, guests = self._booking(name)
-        self._bookings[name] = (without_day(series, day), resources, guests)
+        kept, resources, guests, _ = self._booking(name)
+        self._put(name, Kept(without_day(kept.own, day)), resources, guests)
 
     def move(self, name, day, start, length):
         """Moves a day of a booking."""
-        booking = self._booking(name)
-        series = with_moved(booking[0], day, start, length)
-        self._check_times(name, series, held_by(booking))
-        self._bookings[name] = (series, booking[1], booking[2])
+        kept, resources, guests, held = self._booking(name)
+        series = with_moved(kept.own, day, start, length)
+        self._check_times(name, series, held)
+        self._put(name, Kept(series), resources, guests)
 
     def divide(self, name, day, new_name):
         """Splits a booking; the second part becomes a new booking with the same resources and guests."""
-        series, resources, guests = self._booking(name)
+        kept, resources, guests, _ = self._booking(name)
         if not is_name(new_name):
             raise InvalidBooking("the new name is no name")
         self._check_free(new_name)
-        early, late = split_at(series, day)
-        self._bookings[name] = (early, resources, guests)
-        self._bookings[new_name] = (late, resources, guests)
+        early, late = split_at(kept.own, day)
+        self._put(name, Kept(early), resources, guests)
+        self._put(new_name, Kept(late), resources, guests)
 
     def invite(self, name, person):
         """Makes a person a guest of a booking."""
-        series, resources, guests = self._booking(name)
+        kept, resources, guests, _ = self._booking(name)
         if not is_name(person):
             raise InvalidBooking("the person is no name")
         if person in resources or person in dict(guests):
             raise DuplicateName("the person is a guest or a resource of the booking")
         if len(guests) >= MOST_GUESTS:
             raise InvalidBooking(f"the booking has {MOST_GUESTS} guests")
-        self._bookings[name] = (series, resources, tuple(sorted([*guests, (person, ASKED)])))
+        self._put(name, kept, resources, tuple(sorted([*guests, (person, ASKED)])))
 
     def reply(self, name, person, word):
         """Gives a guest of a booking a word."""
-        series, resources, guests = self._booking(name)
+        kept, resources, guests, _ = self._booking(name)
         if person not in dict(guests):
             raise UnknownGuest("the person is no guest of the booking")
         if word not in WORDS:
             raise InvalidBooking("the word is none of a guest")
         if word == COMING:
-            self._check_clash(name, series, (person,))
+            self._check_clash(name, kept.own, (person,))
         words = [(guest, word if guest == person else known) for guest, known in guests]
-        self._bookings[name] = (series, resources, tuple(words))
+        self._put(name, kept, resources, tuple(words))
 
     def names(self):
         """The names of the bookings, ascending."""
@@ -89,7 +90,7 @@ class Book:
 
     def series(self, name):
         """The series of a booking."""
-        return self._booking(name)[0]
+        return self._booking(name)[0].told()
 
     def resources(self, name):
         """The resources of a booking, without its guests."""
@@ -102,22 +103,22 @@ class Book:
     def busy(self, resource):
         """The span set of the instants at which a resource is held."""
         found = Spans((), 0, 1, ())
-        for name in self._holders(resource):
-            found = found | self.series(name).spans()
+        for series in self.bookings_of((resource,)).values():
+            found = found | series.spans()
         return found
 
     def holder(self, resource, instant):
         """The name of the booking that holds a resource at an instant, or None."""
-        for name in self._holders(resource):
-            if self.series(name).covers(instant):
+        for name, series in self.bookings_of((resource,)).items():
+            if series.covers(instant):
                 return name
         return None
 
     def agenda(self, resource, start, stop):
         """The rows (start, end, name, day) of all occurrences of a resource within the bounds, ascending."""
         rows = []
-        for name in self._holders(resource):
-            found = self.series(name).occurrences(start, stop)
+        for name, series in self.bookings_of((resource,)).items():
+            found = series.occurrences(start, stop)
             rows.extend([(low, high, name, day) for low, high, day in found])
         return tuple(sorted(rows))
 
@@ -127,6 +128,19 @@ class Book:
         # Bookings are never changed, only replaced by others; so both books may have the same ones.
         book._bookings = dict(self._bookings)
         return book
+
+    def entry(self, name):
+        """The kept series, the resources and the guests of a booking, or None if no booking has the name."""
+        return self._bookings[name][:3] if name in self._bookings else None
+
+    def bookings_of(self, resources):
+        """The series of all bookings that have one of the resources, by name, in ascending order of the names."""
+        names = [name for name, row in self._bookings.items() if any([held in resources for held in row[3]])]
+        return {name: self._bookings[name][0].own for name in sorted(names)}
+
+    def _put(self, name, kept, resources, guests):
+        """Makes a booking as it is to be."""
+        self._bookings[name] = (kept, resources, guests, held_by(resources, guests))
 
     def _booking(self, name):
         """The booking with this name."""
@@ -139,10 +153,6 @@ class Book:
         if name in self._bookings:
             raise DuplicateName("a booking has the name")
 
-    def _holders(self, resource):
-        """The names of the bookings that have a resource, ascending."""
-        return [name for name in self.names() if resource in held_by(self._bookings[name])]
-
     def _check_times(self, name, series, held):
         """Refuses a series with which the booking of this name would break point 6.2."""
         shared = series.self_clash()
@@ -152,11 +162,15 @@ class Book:
 
     def _check_clash(self, name, series, held):
         """Refuses a series that clashes with other bookings than that of this name (point 6.3)."""
-        rivals = [(other, resource) for resource in held for other in self._holders(resource) if other != name]
         spans = series.spans()
-        names = sorted({row[0] for row in rivals})
-        meetings = {rival: spans.meets(self.series(rival).spans()) for rival in names}
+        rivals = {other: rival for other, rival in self.bookings_of(held).items() if other != name}
+        meetings = {other: spans.meets(rival.spans()) for other, rival in rivals.items()}
         instants = [instant for instant in meetings.values() if instant is not None]
-        for other, resource in rivals:
-            if instants and meetings[other] == min(instants):
-                raise Clash(other, resource, min(instants))
+        if not instants:
+            return
+        first = min(instants)
+        names = [other for other in rivals if meetings[other] == first]
+        for resource in held:
+            for other in names:
+                if resource in self._bookings[other][3]:
+                    raise Clash(other, resource, first)

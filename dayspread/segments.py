@@ -28,6 +28,14 @@ def first_behind(spans, instant):
     return low
 
 
+def last_before(spans, instant):
+    """The last instant below this one that the tidy spans contain, or None."""
+    place = first_behind(spans, instant)
+    if place < len(spans) and spans[place][0] < instant:
+        return instant - 1
+    return spans[place - 1][1] - 1 if place > 0 else None
+
+
 def contains(spans, instant):
     """True if one of the tidy spans contains the instant."""
     place = first_behind(spans, instant)

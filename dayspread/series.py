@@ -106,6 +106,13 @@ class Series:
         if not self.tells(day):
             raise InvalidSeries("a dropped or moved day is no day of the rule")
 
+    def copy(self):
+        """Another series with the same values."""
+        other = Series(self.zone, self.rule, self.unit, self.length, dropped=self.dropped, moved=self.moved)
+        other._spans = self._spans
+        other._shared = self._shared
+        return other
+
     def tells(self, day):
         """True if the day is a day of the rule, be it dropped or not."""
         if day < self.rule[1] or not fits(self.zone.calendar, self.rule, day):

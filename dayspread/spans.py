@@ -2,9 +2,9 @@
 
 from dayspread.errors import InvalidSpans
 from dayspread.normal import normal
-from dayspread.segments import contains, cut, first_behind, merged, moved_by, total
+from dayspread.segments import contains, cut, first_behind, last_before, merged, moved_by, total
 from dayspread.sharing import complement, first_alone, first_common, shared
-from dayspread.wheels import count_in, next_in, turned
+from dayspread.wheels import count_in, last_in, next_in, turned
 
 
 def check_spans(spans, bound):
@@ -96,6 +96,14 @@ class Spans:
         if place < len(self.head):
             return max(instant, self.head[place][0])
         return next_in(self.wheel(), max(instant, self.since))
+
+    def last_below(self, instant):
+        """The greatest instant of the set that is below this one, or None."""
+        if instant > self.since:
+            found = last_in(self.wheel(), instant)
+            if found is not None and found >= self.since:
+                return found
+        return last_before(self.head, instant)
 
     def is_empty(self):
         """True if no instant belongs to the set."""

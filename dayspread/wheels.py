@@ -8,7 +8,7 @@ No answer here is found by going through more spans than have to be told: neithe
 turn through a wheel without a gap or without a span.
 """
 
-from dayspread.segments import cut, first_behind, gaps, merged, moved_by, total
+from dayspread.segments import cut, first_behind, gaps, last_before, merged, moved_by, total
 
 EMPTY = (0, 1, ())
 
@@ -60,6 +60,16 @@ def next_in(wheel, instant):
     if place < len(cycle):
         return instant - rest + max(rest, cycle[place][0])
     return instant - rest + period + cycle[0][0]
+
+
+def last_in(wheel, instant):
+    """The last integer below the instant that the wheel contains, or None if it contains none."""
+    origin, period, cycle = wheel
+    if not cycle:
+        return None
+    rest = (instant - origin) % period
+    found = last_before(cycle, rest)
+    return instant - rest + (cycle[-1][1] - 1 - period if found is None else found)
 
 
 def count_in(wheel, start, stop):

@@ -13,6 +13,7 @@ from tests.plain import values
 from tests.rule_samples import NEVER
 from tests.samples import FAR, SMALL
 from tests.span_samples import NOTHING
+from tests.telling import parts_of, told
 
 PLAIN = Zone(SMALL, 0)
 LONGEST = "abcxyz012789"
@@ -21,15 +22,6 @@ GUESTS = ("ann", "bob", "cy", "dan", "eve", "flo", "gus", "hal")
 
 def weekly(weekday, unit=0, length=2, **more):
     return Series(PLAIN, (("weeks", 1, (weekday,)), 8, NEVER), unit, length, **more)
-
-
-def parts_of(series):
-    return series.zone, series.rule, series.unit, series.length, series.dropped, series.moved
-
-
-def told(book):
-    """All that a book tells of its bookings."""
-    return {name: (parts_of(book.series(name)), book.resources(name), book.guests(name)) for name in book.names()}
 
 
 class BookTest(unittest.TestCase):

@@ -157,6 +157,18 @@ class QuestionsTest(unittest.TestCase):
                 expected = next((t for t in range(far, far + 40) if belongs(told, t)), None)
                 self.assertEqual(spans.next_from(far), expected, told)
 
+    def test_last_below(self):
+        for told in SETS:
+            spans = Spans(*told)
+            for instant in range(60):
+                expected = max((t for t in range(instant) if belongs(told, t)), default=None)
+                self.assertEqual(spans.last_below(instant), expected, (told, instant))
+            # Where there is none close below, the set has none from `since` on.
+            for far in (10 ** 9, FAR):
+                close = max((t for t in range(far - 40, far) if belongs(told, t)), default=None)
+                early = max((t for t in range(60) if belongs(told, t)), default=None)
+                self.assertEqual(spans.last_below(far), early if close is None else close, told)
+
     def test_measure_and_parts(self):
         bounds = [(start, stop) for start in (0, 1, 4, 9, 10, 17) for stop in (0, 1, 2, 9, 10, 11, 23, 60)
                   if start <= stop]
