@@ -16,6 +16,11 @@ FUNCTIONS = {
     "edits": {"without_day": "(series, day)", "with_moved": "(series, day, start, length)",
               "split_at": "(series, day)"},
     "needs": {"is_possible": "(book, need, instant)"},
+    "papers": {"is_right": "(book, need, block)", "covers_from": "(blocks, start, stop)",
+               "is_certificate": "(book, need, certificate)"},
+    "finder": {"find": "(book, need)"},
+    "reminders": {"rings": "(book, resource, lead, start, stop)", "next_ring": "(book, resource, lead, instant)"},
+    "exchange": {"write_book": "(book)", "read_book": "(zone, text)"},
     "written": {"format_rule": "(rule)", "parse_rule": "(calendar, line)"},
 }
 CLASSES = {
@@ -47,6 +52,18 @@ CLASSES = {
         "holder": "(self, resource, instant)", "agenda": "(self, resource, start, stop)", "copy": "(self)"},
     ("needs", "Need"): {
         "__init__": "(self, resources, length, *, hours=None, before=0, after=0, start=0)"},
+    ("server", "Server"): {
+        "__init__": "(self)", "do": "(self, act)", "book": "(self)", "total": "(self)", "version": "(self, name)",
+        "changes": "(self, token)", "receive": "(self, message)"},
+    ("device", "Device"): {
+        "__init__": "(self, number)", "add": "(self, name, series, resources)", "remove": "(self, name)",
+        "drop": "(self, name, day)", "move": "(self, name, day, start, length)",
+        "divide": "(self, name, day, new_name)", "invite": "(self, name, person)",
+        "reply": "(self, name, person, word)", "pull": "(self)", "outgoing": "(self)", "receive": "(self, reply)",
+        "names": "(self)", "entry": "(self, name)", "token": "(self)", "waiting": "(self)", "answers": "(self)"},
+    ("network", "Network"): {
+        "__init__": "(self, server, devices)", "send": "(self, number)", "deliver": "(self, place)",
+        "lose": "(self, place)", "repeat": "(self, place)", "messages": "(self)"},
 }
 
 
