@@ -95,8 +95,10 @@ class Device:
 
     def receive(self, reply):
         """Takes in a reply, if it is the one to the request under way."""
-        kind = "answer" if self._sent is not None and self._sent[0] == "ask" else "feed"
-        if self._sent is None or reply[:3] != (kind, self._number, self._last):
+        if self._sent is None:
+            return
+        kind = "answer" if self._sent[0] == "ask" else "feed"
+        if reply[:3] != (kind, self._number, self._last):
             return
         self._sent = None
         if kind == "answer":

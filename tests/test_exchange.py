@@ -183,6 +183,12 @@ class MistakesTest(unittest.TestCase):
                          "booking one red-blue"):
                 self.refused(number, self.with_line(number, line))
             self.assertIn("rule", read_book(PLAIN, self.with_line(number, "booking rule at")).names())
+        # The line itself is told, not the one behind the text, and not a later one that is wrong, too.
+        for line in ("booking one", "booking one ", "booking  one red", "booking one  red", "booking"):
+            self.refused(1, line)
+            self.refused(1, f"{line}\nx")
+        self.refused(2, "booking One red")
+        self.refused(2, "booking One red\nx")
 
     def test_rule_lines(self):
         for number in (2, 12):
@@ -219,7 +225,8 @@ class MistakesTest(unittest.TestCase):
                  "dropped 13 x", "dropped 13,33", "dropped -13", "Dropped 13", "drop 13", "", "booking a b",
                  "at 2 for 3", "rule every 1 days from 2", "dropped\t13", "dropped 13\t33")
         for line in ("dropped 13 13", "dropped 14", "dropped 5", "dropped 17", "dropped 0", "dropped 2009",
-                     "dropped 2013", f"dropped {10 ** 299}", "dropped " + " ".join(str(day) for day in range(25, 200, 4))):
+                     "dropped 2013", f"dropped {10 ** 299}",
+                     "dropped " + " ".join(str(day) for day in range(25, 200, 4))):
             self.refused(1, self.with_line(4, line))
         # A second line, or one behind a line "moved" or "guest", may not stand there.
         self.refused(5, self.with_line(4, "dropped 13", "dropped 33"))
@@ -250,7 +257,7 @@ class MistakesTest(unittest.TestCase):
     def test_guest_lines(self):
         for number in (7, 8, 9):
             self.bad(number, "guest", "guest ann", "guest ann coming now", "guest ann Coming", "guest ann come",
-                     "guest ann  coming", "guest ann coming ", "guest  ann coming", "guest coming",
+                     "guest ann  coming", "guest ann coming ", "guest  ann coming", "guest coming", "guest  coming",
                      "guests ann coming", "Guest ann coming", "", "booking a b", "dropped 13", "guest ann\tcoming",
                      "guest\tann coming", "at 2 for 3")
             for line in ("guest Ann asked", "guest ann.b absent", "guest red asked", "guest blue coming",

@@ -39,6 +39,9 @@ class FindTest(unittest.TestCase):
         found = find(self.book, need)
         self.assertIs(is_certificate(self.book, need, found), True, found[:-1])
         self.assertIs(type(found[-1]), tuple)
+        for block in found[-1][:1000]:
+            self.assertIs(type(block), tuple)
+            self.assertIn((block[2][0], len(block), len(block[2])), (("hours", 3, 2), ("busy", 3, 3)))
         if expected is None:
             self.assertEqual((found[0], len(found)), ("never", 4))
         else:
